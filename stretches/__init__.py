@@ -1,0 +1,1 @@
+"""Stretches: things that last for a while, told as stretches of time."""
