@@ -1,5 +1,6 @@
 """The calls about one order, and what they answer."""
 
+from stretches.relation import begins_all_as_long, first_crowd, first_three_and_one, first_two_and_two
 from stretches.relation import how_many_moments, over_before, pairs_over, stretches_told
 
 THINGS = 0
@@ -8,6 +9,12 @@ UNDO = 2
 TOLD = 3
 STRETCHES = 4
 AT = 5
+LONG = 6
+TWO_AND_TWO = 7
+THREE_AND_ONE = 8
+PAIRS = 9
+CROWD = 10
+TURN = 11
 
 WRONG = -1
 MISSING = -3
@@ -34,13 +41,18 @@ def rows_of(order):
     return over_before(order.size, order.told)
 
 
-def pair_numbers(pairs):
-    """How many pairs, then both things of each."""
-    numbers = [len(pairs)]
-    for x, y in pairs:
-        numbers.append(x)
-        numbers.append(y)
+def with_pairs(first, pairs):
+    """The first number, then both numbers of each pair."""
+    numbers = [first]
+    for one, other in pairs:
+        numbers.append(one)
+        numbers.append(other)
     return numbers
+
+
+def answer_pairs(order):
+    pairs = pairs_over(rows_of(order))
+    return with_pairs(len(pairs), pairs)
 
 
 def answer_things(order, size):
@@ -102,7 +114,7 @@ def answer_told(order, ends):
         return [WRONG]
     order.size = len(ends) // 2
     order.told = pairs_apart(ends)
-    return pair_numbers(pairs_over(rows_of(order)))
+    return answer_pairs(order)
 
 
 def answer_stretches(order):
@@ -110,11 +122,7 @@ def answer_stretches(order):
     spans = stretches_told(over)
     if spans is None:
         return [FORBIDDEN]
-    numbers = [how_many_moments(over)]
-    for begin, end in spans:
-        numbers.append(begin)
-        numbers.append(end)
-    return numbers
+    return with_pairs(how_many_moments(over), spans)
 
 
 def answer_at(order, moment):
@@ -129,6 +137,30 @@ def answer_at(order, moment):
         if span[0] <= moment and moment <= span[1]:
             lasting.append(thing)
     return [len(lasting)] + lasting
+
+
+def answer_long(order):
+    begins = begins_all_as_long(rows_of(order))
+    if begins is None:
+        return [FORBIDDEN]
+    return begins
+
+
+def answer_four(four):
+    if four is None:
+        return [MISSING]
+    return four
+
+
+def answer_crowd(order):
+    crowd = first_crowd(rows_of(order))
+    return [len(crowd)] + crowd
+
+
+def answer_turn(order):
+    # The pairs keep their places: undo takes back the one that was told last, whichever way round.
+    order.told = [(y, x) for x, y in order.told]
+    return answer_pairs(order)
 
 
 def how_many_numbers(calls, place):
@@ -156,6 +188,18 @@ def answer_call(order, call, numbers):
         return answer_stretches(order)
     if call == AT:
         return answer_at(order, numbers[0])
+    if call == LONG:
+        return answer_long(order)
+    if call == TWO_AND_TWO:
+        return answer_four(first_two_and_two(rows_of(order)))
+    if call == THREE_AND_ONE:
+        return answer_four(first_three_and_one(rows_of(order)))
+    if call == PAIRS:
+        return answer_pairs(order)
+    if call == CROWD:
+        return answer_crowd(order)
+    if call == TURN:
+        return answer_turn(order)
     raise UnknownCall(f"there is no call {call}")
 
 

@@ -35,6 +35,12 @@ NOT_USED = (
     "copyright credits delattr dir eval exec exit gc getattr globals hasattr help id importlib license locals "
     "methodcaller os quit setattr super type vars sys print chr hash next map format format_map"
 ).split()
+WALKED = "zip enumerate reversed range items keys values".split()
+WALKERS = "list tuple dict sorted sum any all enumerate zip min max".split()
+KEYWORDS = {
+    "sorted": ["key", "reverse"], "min": ["key", "default"], "max": ["key", "default"], "sum": ["start"],
+    "enumerate": ["start"], "zip": ["strict"],
+}
 PYTHON_NAMES = set(dir(__builtins__) if not isinstance(__builtins__, dict) else __builtins__)
 
 
@@ -51,8 +57,44 @@ def bound_names(tree):
     return names
 
 
+def names_of_the_top(tree):
+    return [
+        node.targets[0].id if isinstance(node, ast.Assign) else node.name
+        for node in tree.body if isinstance(node, (ast.Assign, ast.FunctionDef, ast.ClassDef))
+    ]
+
+
 def imported_names(tree):
     return [alias.asname or alias.name for node in ast.walk(tree) if isinstance(node, ast.ImportFrom) for alias in node.names]
+
+
+def is_plain(node):
+    """Whether the node is a number, a text, a truth, None, a name, or a tuple, list or dict of these."""
+    if isinstance(node, ast.UnaryOp) and isinstance(node.op, ast.USub):
+        return isinstance(node.operand, ast.Constant)
+    if isinstance(node, (ast.Tuple, ast.List)):
+        return all(is_plain(part) for part in node.elts)
+    if isinstance(node, ast.Dict):
+        return all(is_plain(part) for part in node.keys + node.values)
+    return isinstance(node, (ast.Constant, ast.Name))
+
+
+def called(node):
+    """The name or the method that the node calls, if it calls any."""
+    if isinstance(node, ast.Call):
+        return getattr(node.func, "id", None) or getattr(node.func, "attr", None)
+    return None
+
+
+def walked_on_the_spot(tree):
+    """The nodes that a loop, a comprehension or a walking function walks at once."""
+    walked = []
+    for node in ast.walk(tree):
+        if isinstance(node, (ast.For, ast.comprehension)):
+            walked.append(node.iter)
+        if called(node) in WALKERS and node.args:
+            walked.append(node.args[0])
+    return walked
 
 
 class Language(unittest.TestCase):
@@ -131,11 +173,63 @@ class Language(unittest.TestCase):
                 self.assertNotIn(word, NOT_USED)
             for word in taken:
                 self.assertLessEqual(bound.count(word), 1, word)
-            top = [node.targets[0].id for node in tree.body if isinstance(node, ast.Assign)]
+            top = names_of_the_top(tree)
             self.assertEqual(len(top), len(set(top)), name)
             for node in ast.walk(tree):
                 if isinstance(node, ast.Name):
                     self.assertIn(node.id, bound + taken + OWN_NAMES, name)
+
+    def test_the_top_of_a_file(self):
+        for name, text, tree in self.each():
+            self.assertIsNotNone(ast.get_docstring(tree), name)
+            for node in tree.body[1:]:
+                self.assertIsInstance(node, (ast.ImportFrom, ast.FunctionDef, ast.ClassDef, ast.Assign), name)
+                if isinstance(node, ast.Assign):
+                    self.assertTrue(is_plain(node.value), ast.unparse(node))
+
+    def test_imports_draw_from_the_file_that_defines_and_not_round(self):
+        trees = {"stretches." + name[:-3]: tree for name, text, tree in self.each()}
+        drawn = {}
+        for module, tree in trees.items():
+            rows = [node for node in tree.body if isinstance(node, ast.ImportFrom)]
+            drawn[module] = {row.module for row in rows}
+            for row in rows:
+                for alias in row.names:
+                    self.assertIn(alias.name, names_of_the_top(trees[row.module]), module)
+        while drawn:
+            free = [module for module in drawn if not drawn[module] & set(drawn)]
+            self.assertNotEqual(free, [], "files draw from one another")
+            for module in free:
+                drawn.pop(module)
+
+    def test_no_annotations_no_powers_no_sets(self):
+        for name, text, tree in self.each():
+            for node in ast.walk(tree):
+                self.assertNotIsInstance(node, (ast.AnnAssign, ast.Pow), name)
+                self.assertNotIn(getattr(node, "id", None), ("set", "frozenset"), name)
+                if isinstance(node, ast.FunctionDef):
+                    self.assertIsNone(node.returns, node.name)
+                    self.assertEqual([each.arg for each in node.args.args if each.annotation], [], node.name)
+                if isinstance(node, ast.Constant) and isinstance(node.value, str):
+                    self.assertNotIn("%", node.value, name)
+                if isinstance(node, ast.FormattedValue):
+                    self.assertIsInstance(node.value, ast.Name, name)
+                    self.assertIsNone(node.format_spec, name)
+
+    def test_keywords_at_python_s_own(self):
+        for name, text, tree in self.each():
+            own = bound_names(tree) + imported_names(tree)
+            for node in ast.walk(tree):
+                if called(node) is not None and called(node) not in own:
+                    given = {keyword.arg for keyword in node.keywords}
+                    self.assertLessEqual(given, set(KEYWORDS.get(called(node), [])), ast.unparse(node))
+
+    def test_walked_at_once(self):
+        for name, text, tree in self.each():
+            walked = walked_on_the_spot(tree)
+            for node in ast.walk(tree):
+                if called(node) in WALKED:
+                    self.assertIn(node, walked, ast.unparse(node))
 
     def test_methods(self):
         for name, text, tree in self.each():

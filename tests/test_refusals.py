@@ -2,9 +2,11 @@
 
 import unittest
 
-from tests.lines import HIGHEST, STRETCHES, UNDO, ask, at, last, over, things, told
+from tests.lines import CROWD, HIGHEST, LONG, PAIRS, STRETCHES, THREEONE, TURN, TWOTWO, UNDO
+from tests.lines import ask, at, last, over, row, things, told
 
 TWO_AND_TWO = [things(4), over(1, 2), over(3, 4)]
+THREE_AND_ONE = [things(4), *row(1, 2, 3)]
 
 
 class Point1(unittest.TestCase):
@@ -82,6 +84,23 @@ class Point2(unittest.TestCase):
         self.assertEqual(last(things(8), over(8, 1), over(5, 3), STRETCHES), [-6])
         self.assertEqual(last(things(6), over(1, 2), over(2, 3), over(4, 5), over(5, 6), STRETCHES), [-6])
 
+    def test_long_none_all_as_long_tell_it(self):
+        self.assertEqual(last(*TWO_AND_TWO, LONG), [-6])
+        self.assertEqual(last(*THREE_AND_ONE, LONG), [-6])
+
+    def test_twotwo_no_such_four(self):
+        self.assertEqual(last(*THREE_AND_ONE, TWOTWO), [-3])
+        self.assertEqual(last(told(0, 9, 1, 2, 3, 4, 5, 6), TWOTWO), [-3])
+
+    def test_threeone_no_such_four(self):
+        self.assertEqual(last(*TWO_AND_TWO, THREEONE), [-3])
+        self.assertEqual(last(told(0, 1, 1, 2, 2, 3, 3, 4, 4, 5), THREEONE), [-3])
+
+    def test_the_others_refuse_nothing(self):
+        for ahead in ([], [things(8)], TWO_AND_TWO, THREE_AND_ONE):
+            for answer in ask(*ahead, PAIRS, CROWD, TURN)[-3:]:
+                self.assertGreaterEqual(answer[0], 0)
+
     def test_two_and_two_goes_where_one_more_is_told(self):
         self.assertEqual(ask(*TWO_AND_TWO, STRETCHES, over(1, 4), STRETCHES, at(2), UNDO, STRETCHES)[3:], [
             [-6], [3], [3, 1, 1, 2, 3, 1, 2, 3, 3], [2, 2, 3], [2], [-6],
@@ -104,7 +123,10 @@ class AllIsAsItWas(unittest.TestCase):
     """Behind each refusal the order answers just what it answered ahead of it."""
 
     def check(self, ahead, refused, refusal):
-        probes = [STRETCHES, at(1), at(2), UNDO, STRETCHES, UNDO, UNDO]
+        probes = [
+            STRETCHES, at(1), at(2), LONG, TWOTWO, THREEONE, PAIRS, CROWD, TURN, TURN, UNDO, PAIRS, STRETCHES, TURN,
+            UNDO, PAIRS, UNDO,
+        ]
         got = ask(*ahead, refused, *probes)
         self.assertEqual(got[len(ahead)], [refusal], refused)
         self.assertEqual(got[len(ahead) + 1:], ask(*ahead, *probes)[len(ahead):], refused)
@@ -128,6 +150,13 @@ class AllIsAsItWas(unittest.TestCase):
         self.check(TWO_AND_TWO, at(0), -6)
         self.check([told(1, 2, 3, 4)], at(0), -3)
         self.check([told(1, 2, 3, 4)], at(3), -3)
+        self.check(TWO_AND_TWO, LONG, -6)
+        self.check(THREE_AND_ONE, LONG, -6)
+        self.check(THREE_AND_ONE, TWOTWO, -3)
+        self.check(TWO_AND_TWO, THREEONE, -3)
+        for ahead in ([], [things(8)], [told(1, 2, 3, 4, 5, 6)]):
+            self.check(ahead, TWOTWO, -3)
+            self.check(ahead, THREEONE, -3)
 
 
 if __name__ == "__main__":
